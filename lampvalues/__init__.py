@@ -1,0 +1,1 @@
+"""A small device's table of values."""
