@@ -27,6 +27,8 @@ def parted(given):
     parts = []
     place = 0
     while place < len(given):
+        if given[place] < 1:
+            raise ValueError("an answer has no number")
         end = place + 1 + given[place]
         if end > len(given):
             raise ValueError("the last answer is cut off")

@@ -63,7 +63,11 @@ class Long(unittest.TestCase):
     def test_1000_calls(self):
         value = [number % 256 for number in range(512)]
         given = told(add(512, 0, value), *[get(1)] * 999)
-        self.assertEqual(given, [[1]] + [[512] + value] * 999)
+        self.assertEqual(len(given), 1000)
+        self.assertEqual(given[0], [1])
+        # One by one, as telling two such long lists apart takes unittest hours.
+        for answer in given[1:]:
+            self.assertEqual(answer, [512] + value)
 
     def test_30000_numbers(self):
         calls = [add(512, 0, [7]), *[put(1, [number] * 512) for number in range(58)]]
