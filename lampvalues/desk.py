@@ -1,10 +1,14 @@
 """The desk: takes a list of calls on a new device and gives back their answers."""
 
 from lampvalues.device import Device
+from lampvalues.messages import take_message
 
 ADD = 1
 SET = 2
 GET = 3
+MESSAGE = 4
+TELL = 5
+LINK = 6
 
 
 class UnknownCall(ValueError):
@@ -51,6 +55,22 @@ def answer_get(device, reader):
     return device.get_value(handle)
 
 
+def answer_message(device, reader):
+    message = reader.next_row()
+    return take_message(device, message)
+
+
+def answer_tell(device, reader):
+    handle = reader.next_number()
+    confirm = reader.next_number()
+    return device.tell_value(handle, confirm)
+
+
+def answer_link(device, reader):
+    safe = reader.next_number()
+    return device.renew_link(safe)
+
+
 def answer_next(device, reader):
     call = reader.next_number()
     if call == ADD:
@@ -59,6 +79,12 @@ def answer_next(device, reader):
         return answer_set(device, reader)
     if call == GET:
         return answer_get(device, reader)
+    if call == MESSAGE:
+        return answer_message(device, reader)
+    if call == TELL:
+        return answer_tell(device, reader)
+    if call == LINK:
+        return answer_link(device, reader)
     # How long an unknown call is can't be told, so nothing behind it can be read.
     raise UnknownCall(f"there is no call {call}")
 
